@@ -1,0 +1,1 @@
+"""Airtime: rows that are aired to the second."""
