@@ -1,9 +1,10 @@
-"""What rows, fillers, rooms and ends are, and the refusal of what is none."""
+"""What rows, fillers, rooms, ends and logs are, and the refusal of what is none."""
 
-from airtime.errors import BadEnd, BadFillers, BadRoom, BadRows
+from airtime.errors import BadEnd, BadFillers, BadLog, BadRoom, BadRows
 
 MOST_SECONDS = 900
 MOST_ROWS = 30
+MOST_ENTRIES = 2000
 MOST_FILLERS = 6
 GREATEST_ID = 99
 LONGEST_ROW = 120
@@ -29,6 +30,23 @@ def is_row(row):
     if not is_whole(length, 1, LONGEST_ROW):
         return False
     return moment is None or is_whole(moment, 0, MOST_SECONDS - 1)
+
+
+def is_filler(what):
+    """Tell whether something is ("fill", length), whatever fillers there are."""
+    if not isinstance(what, tuple) or len(what) != 2:
+        return False
+    return what[0] == "fill" and is_whole(what[1], 1, LONGEST_FILLER)
+
+
+def is_entry(entry):
+    """Tell whether something is an entry of a log, whether it can be or not."""
+    if not isinstance(entry, tuple) or len(entry) != 3:
+        return False
+    start, stop, what = entry
+    if not is_whole(start, 0, MOST_SECONDS) or not is_whole(stop, 0, MOST_SECONDS):
+        return False
+    return is_filler(what) or is_whole(what, 0, GREATEST_ID)
 
 
 def check_room(room):
@@ -78,3 +96,17 @@ def check_rows(rows, begin, end):
             if not earliest <= moment < end:
                 raise BadRows(at)
             earliest = moment + 1
+
+
+def check_task(rows, fillers, begin, end):
+    """Refuse what can't be laid: an end or a begin ahead of rows, and these ahead of fillers."""
+    check_span(begin, end)
+    check_rows(rows, begin, end)
+    check_fillers(fillers)
+
+
+def check_log(log):
+    """Refuse a log by the first entry that is none."""
+    for at, entry in enumerate(log):
+        if at >= MOST_ENTRIES or not is_entry(entry):
+            raise BadLog(at)

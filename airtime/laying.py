@@ -1,6 +1,6 @@
 """Rows laid behind one another, from a begin to an end, their moments kept."""
 
-from airtime.checking import check_fillers, check_rows, check_span
+from airtime.checking import check_task
 from airtime.filling import filled
 
 
@@ -71,7 +71,7 @@ def lay_stretch(start, stop, opener, rows, fillers):
 
 
 def lay(rows, fillers, begin, end):
-    """Tell what is aired from the begin to the end, and the ids that are left, of checked rows."""
+    """Tell what `laid` tells, of what is checked; the begin may be the end, and the rows any number."""
     aired = []
     moved = []
     for start, stop, opener, own in stretches(rows, begin, end):
@@ -82,7 +82,5 @@ def lay(rows, fillers, begin, end):
 
 def laid(rows, fillers, begin, end):
     """Tell what is aired from the begin to the end, and the ids that are left."""
-    check_span(begin, end)
-    check_rows(rows, begin, end)
-    check_fillers(fillers)
+    check_task(rows, fillers, begin, end)
     return lay(rows, fillers, begin, end)
